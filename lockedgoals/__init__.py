@@ -1,0 +1,1 @@
+"""Agents that may change their own goals: what such a change costs, exactly."""
