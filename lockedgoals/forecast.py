@@ -31,6 +31,20 @@ def forecast_with(process, steps):
     return forecast
 
 
+def naive_forecast_with(process, steps):
+    """The forecast for this number of remaining steps, from 0 up, if all agents are naive.
+
+    Its chosen are the actions that naive agents take, its worths the naive values.
+    """
+    factor = scale_factor(process)
+    expected = forecast_at_end(process)
+    forecast = forecast_at_end(process)
+    for step in range(steps):
+        expected = forecast_before(process, factor, expected)
+        forecast = naive_forecast_before(process, factor, expected, forecast)
+    return forecast
+
+
 def scale_factor(process):
     """A number that every action's sum of weights divides."""
     factor = 1
@@ -73,6 +87,25 @@ def forecast_before(process, factor, later):
                 best = worths
         forecast.chosen[situation] = chosen
         forecast.worths[situation] = best
+    return forecast
+
+
+def naive_forecast_before(process, factor, expected, later):
+    """The naive forecast for one more remaining step than the later naive forecast has.
+
+    expected is the forecast for sophisticated agents with the same remaining
+    steps. A goal that is locked never changes, which is what a naive agent
+    assumes of its own, so it takes what would be chosen with its goal locked.
+    """
+    forecast = Forecast(later.scale * factor)
+    for situation in all_situations(process):
+        taken = expected.chosen[(situation[0], situation[1], 1)]
+        worths = [0] * process.goal_count
+        if taken is not None:
+            action = process.actions[situation[0]][taken]
+            worths = action_worths(action, situation, factor, later)
+        forecast.chosen[situation] = taken
+        forecast.worths[situation] = worths
     return forecast
 
 

@@ -24,6 +24,18 @@ class Process:
         self.actions = [[] for state in range(state_count)]
 
 
+def calm_actions(actions):
+    """Those of the actions that don't change the goal."""
+    return [action for action in actions if action.change == 0]
+
+
+def without_changes(process):
+    """A process of its own that has only the actions that don't change the goal."""
+    calm = Process(process.state_count, process.goal_count)
+    calm.actions = [calm_actions(actions) for actions in process.actions]
+    return calm
+
+
 def goal_after(action, goal, locked):
     """The goal of an agent that has taken the action."""
     if action.change > 0 and locked == 0:

@@ -5,8 +5,7 @@ from lockedgoals.model import Process
 from lockedgoals.operations import carry_out
 from lockedgoals.refusals import DoesNotExist, NoProcess, NothingThere, OutsideLimits, StateIsFull
 
-# By call number: the call's name, then the names of its arguments. All are listed,
-# also those that aren't built: without a process every one of them is refused.
+# By call number: the call's name, then the names of its arguments in the order in which they come.
 CALLS = (
     ("create", "state_count", "goal_count"),
     ("add_action", "state", "parameters"),

@@ -19,3 +19,8 @@ def lowest_terms(top, bottom):
     """The numerator and the denominator of top / bottom, for a bottom from 1 up."""
     divisor = common_divisor(abs(top), bottom)
     return [top // divisor, bottom // divisor]
+
+
+def difference(top, bottom, other_top, other_bottom):
+    """top / bottom minus other_top / other_bottom, in lowest terms, for bottoms from 1 up."""
+    return lowest_terms(top * other_bottom - other_top * bottom, bottom * other_bottom)

@@ -3,10 +3,9 @@
 import unittest
 
 from tests.helper import (
-    add_action, after, ask, chosen_action, create, ideal_value, last, remove_action, set_goal_change, set_lock, value,
+    MOST, add_action, after, ask, chosen_action, create, ideal_value, last, remove_action, set_goal_change, set_lock,
+    value,
 )
-
-MOST = 4294967295
 
 
 class AddAction(unittest.TestCase):

@@ -5,7 +5,11 @@ import io
 import unittest
 
 from lockedgoals.process import answers
-from tests.helper import add_action, ask, change_costs, create, flat, last, value
+from tests.helper import (
+    EXAMPLE, actions_without_twin, add_action, add_twins, after, ask, change_cost, change_costs, chosen_action, create,
+    flat, has_twin, ideal_value, last, lock_value, naive_action, naive_loss, nearest_goal, remove_action, set_lock,
+    value,
+)
 
 EVERY_CALL_BUT_CREATE = (
     [1, 0, 4, 1, 1, 1, 1], [2, 0, 0], [3, 0, 0, 0], [4, 0, 0, 0], [5, 0, 0, 0, 1],
@@ -13,6 +17,44 @@ EVERY_CALL_BUT_CREATE = (
     [11, 0, 0, 0, 1], [12, 0, 0, 1], [13, 0, 1], [14, 0, 0, 1], [15, 0, 0, 0, 0, 1],
     [16, 0, 0, 0, 1], [17, 0, 0], [18], [19, 0], [20, 0, 0, 1], [21, 0, 0, 1],
 )
+
+
+class Examples(unittest.TestCase):
+    # The document's example, call by call, with the answers that it tells.
+    RESULTS = [
+        (create(2, 2), [0]),
+        (add_action(0, [4, 0, 0, 1]), [0]),
+        (add_action(0, [3, 1, 0, 1]), [1]),
+        (add_action(1, [5, 0, 0, 1]), [0]),
+        (add_action(1, [0, 6, 0, 1]), [1]),
+        ([3, 0, 0, 2], [0]),
+        (ideal_value(0, 0, 2), [0, 9, 1]),
+        (chosen_action(0, 0, 0, 2), [1]),
+        (value(0, 0, 0, 0, 2), [0, 8, 1]),
+        (naive_action(0, 0, 2), [0]),
+        (naive_loss(0, 0, 0, 2), [0, 5, 1]),
+        (change_cost(0, 1, 1, 0, 1), [0, 5, 1]),
+        (lock_value(0, 0, 2), [0, 1, 1]),
+        (actions_without_twin(), [1, 0, 0]),
+        (add_twins(0), [1]),
+        (value(0, 0, 0, 0, 2), [0, 9, 1]),
+        (nearest_goal(0, 1, 0, 1), [1, 5, 1]),
+        (set_lock(0, 3, 1), [-2]),
+    ]
+
+    def test_the_document(self):
+        self.assertEqual(ask(*[call for call, _ in self.RESULTS]), [answer for _, answer in self.RESULTS])
+
+    def test_the_document_number_by_number(self):
+        self.assertEqual(answers([
+            0, 2, 2, 1, 0, 4, 4, 0, 0, 1, 1, 0, 4, 3, 1, 0, 1, 1, 1, 4, 5, 0, 0, 1, 1, 1, 4, 0, 6, 0, 1, 3, 0, 0, 2,
+            7, 0, 0, 2, 5, 0, 0, 0, 2, 6, 0, 0, 0, 0, 2, 14, 0, 0, 2, 16, 0, 0, 0, 2, 8, 0, 1, 1, 0, 1, 12, 0, 0, 2,
+            18, 19, 0, 6, 0, 0, 0, 0, 2, 10, 0, 1, 0, 1, 4, 0, 3, 1,
+        ]), [
+            1, 0, 1, 0, 1, 1, 1, 0, 1, 1, 1, 0,
+            3, 0, 9, 1, 1, 1, 3, 0, 8, 1, 1, 0, 3, 0, 5, 1, 3, 0, 5, 1, 3, 0, 1, 1,
+            3, 1, 0, 0, 1, 1, 3, 0, 9, 1, 3, 1, 5, 1, 1, -2,
+        ])
 
 
 class Shape(unittest.TestCase):
@@ -27,6 +69,14 @@ class Shape(unittest.TestCase):
         ])
         self.assertEqual(answers(calls), [1, 0, 1, 0, 3, 0, 4, 1, 5, 2, 0, 1, 0, 1, 1, -2, 1, 0])
 
+    def test_the_form_of_each_answer(self):
+        found = after(EXAMPLE, *EVERY_CALL_BUT_CREATE[3:])
+        self.assertEqual(found, [
+            [0], [0], [0, 4, 1], [0, 4, 1], [0, 0, 1], [2, 0, 1, 1, 1], [1, 1, 1],
+            [0], [0, 0, 1], [0], [0], [0, 4, 1],
+            [0, 0, 1], [0], [1, 0, 0], [1], [0, 0, 1], [1],
+        ])
+
     def test_parameters_of_every_length_are_read_to_their_end(self):
         for length in range(10):
             found = ask(create(2, 1), add_action(0, [1] * length), create(2, 1))
@@ -39,7 +89,9 @@ class Shape(unittest.TestCase):
         found = answers(flat([
             create(2, 2), add_action(0, [1, 2, 1, 2]), [4, 0, 0, 1], [4, 0, 0, 1], [5, 0, 1, 0, 2],
             [3, 0, 0, 1], [6, 0, 0, 0, 0, 3], [7, 0, 0, 3], [8, 0, 1, 0, 0, 3], [9, 0, 0, 0, 3],
-            [10, 0, 0, 0, 3], [2, 0, 0], [2, 0, 0],
+            [10, 0, 0, 0, 3], [11, 0, 0, 0, 3], [12, 0, 0, 3], [13, 0, 3], [14, 0, 0, 3], [15, 0, 0, 0, 0, 3],
+            [16, 0, 0, 0, 3], [17, 0, 0], [18], [19, 0], [17, 0, 0], [18], [20, 0, 0, 3], [21, 0, 1, 3], [21, 0, 0, 3],
+            add_action(0, [1, 3, 1, 1]), [21, 0, 1, 3], [2, 0, 0], [2, 0, 0],
         ]))
         self.assertIs(type(found), list)
         for number in found:
@@ -63,6 +115,18 @@ class NothingKept(unittest.TestCase):
         [6, 0, 0, 0, 0, 4],
         [9, 0, 0, 0, 4],
         add_action(0, [10, 0, 0, 1]),
+        [11, 0, 0, 0, 4],
+        [12, 0, 0, 4],
+        [13, 0, 4],
+        [14, 0, 0, 4],
+        [15, 1, 0, 0, 0, 4],
+        [16, 0, 0, 0, 4],
+        [17, 0, 0],
+        [18],
+        [20, 0, 0, 4],
+        [19, 0],
+        [20, 0, 0, 4],
+        [21, 0, 1, 4],
         [2, 0, 0],
         [6, 0, 0, 0, 0, 4],
     ])
@@ -87,6 +151,22 @@ class NothingKept(unittest.TestCase):
     def test_a_process_is_gone_the_next_time(self):
         ask(create(2, 1), add_action(0, [1, 1, 1]))
         self.assertEqual(ask(value(0, 0, 0, 0, 1)), [[-11]])
+
+    def test_twins_are_gone_the_next_time(self):
+        twice = [after(EXAMPLE, actions_without_twin(), add_twins(0), has_twin(0, 0), remove_action(0, 2))
+                 for _ in range(2)]
+        self.assertEqual(twice, [[[1, 0, 0], [1], [1], [2]]] * 2)
+
+
+class Refusals(unittest.TestCase):
+    def test_a_refused_call_changes_nothing(self):
+        most = 4294967295
+        wrong = [[call[0]] + [most] * (len(call) - 1) for call in EVERY_CALL_BUT_CREATE[1:] if call != [18]]
+        asked = [change_costs(0, 0, 0, 4), actions_without_twin(), set_lock(0, 0, 0), [3, 0, 0, 2], remove_action(0, 0),
+                 remove_action(1, 0)]
+        found = after(EXAMPLE, *wrong, *asked)
+        self.assertEqual(found[:len(wrong)], [[-2]] * len(wrong))
+        self.assertEqual(found[len(wrong):], after(EXAMPLE, *asked))
 
 
 class NoProcess(unittest.TestCase):

@@ -3,33 +3,9 @@
 import unittest
 
 from tests.helper import (
-    add_action, after, ask, change_cost, change_costs, chosen_action, create, ideal_value, nearest_goal, remove_action,
-    set_goal_change, set_lock, value,
+    EXAMPLE, MOST, THREE_GOALS, add_action, after, ask, change_cost, change_costs, chosen_action, create, ideal_value,
+    nearest_goal, remove_action, set_goal_change, set_lock, value,
 )
-
-MOST = 4294967295
-
-# The process of the document's examples: action 0 of state 0 changes the goal to 1.
-EXAMPLE = [
-    create(2, 2),
-    add_action(0, [4, 0, 0, 1]),
-    add_action(0, [3, 1, 0, 1]),
-    add_action(1, [5, 0, 0, 1]),
-    add_action(1, [0, 6, 0, 1]),
-    set_goal_change(0, 0, 2),
-]
-
-TWIN = [add_action(0, [4, 0, 0, 1])]
-
-
-class Examples(unittest.TestCase):
-    def test_the_document(self):
-        self.assertEqual(ask(*EXAMPLE), [[0], [0], [1], [0], [1], [0]])
-        found = after(EXAMPLE, ideal_value(0, 0, 2), chosen_action(0, 0, 0, 2), value(0, 0, 0, 0, 2),
-                      change_cost(0, 1, 1, 0, 1))
-        self.assertEqual(found, [[0, 9, 1], [1], [0, 8, 1], [0, 5, 1]])
-        found = after(EXAMPLE + TWIN, value(0, 0, 0, 0, 2), nearest_goal(0, 1, 0, 1), set_lock(0, 3, 1))
-        self.assertEqual(found, [[0, 9, 1], [1, 5, 1], [-2]])
 
 
 class ChosenAction(unittest.TestCase):
@@ -217,16 +193,6 @@ class IdealValue(unittest.TestCase):
         for evaluator, state in ((2, 0), (0, 2), (MOST, 0), (0, MOST)):
             for steps in (0, 4, 5, MOST):
                 self.assertEqual(after(EXAMPLE, ideal_value(evaluator, state, steps)), [[-2]])
-
-
-# One action in state 0 leads to state 1, where each goal has its own best action.
-THREE_GOALS = [
-    create(2, 3),
-    add_action(0, [0, 0, 0, 1, 3]),
-    add_action(1, [6, 0, -2, 0, 1]),
-    add_action(1, [1, 4, 0, 0, 1]),
-    add_action(1, [3, 0, 5, 0, 1]),
-]
 
 
 class ChangeCost(unittest.TestCase):
